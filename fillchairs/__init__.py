@@ -1,0 +1,1 @@
+"""Chairs filled from a line of groups and a line of singles, for all comers."""
