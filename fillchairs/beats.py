@@ -53,8 +53,12 @@ def play_row(setup, rule, row):
     check_setup(setup)
     check_rule(rule)
     check_row(setup, row)
+    return play_on(setup, rule, FIRST_STATE, row)
+
+
+def play_on(setup, rule, state, row):
+    """Return the chairs of a row of comers that come after a state, and the state after them."""
     chairs = []
-    state = FIRST_STATE
     for comers in row:
         chair, state = play_beat(setup, rule, state, comers)
         chairs.append(chair)
@@ -76,8 +80,7 @@ def play_beat(setup, rule, state, comers):
     """Return the chair of a beat and the state after it."""
     waiting, away = let_in(setup, state, comers)
     deeds, empty, after = fill_chair(setup, rule, waiting)
-    lost = empty if after[1] or after[2] else 0
-    return (deeds, empty, lost, away), after
+    return (deeds, empty, lost_in(empty, after), away), after
 
 
 def let_in(setup, state, comers):
@@ -106,6 +109,11 @@ def fill_chair(setup, rule, waiting):
             done, line, left, singles = seat_some(deed, line, left, singles)
             deeds.append(done)
     return tuple(deeds), left, ((turn + 1) % len(seats), line, singles, mood)
+
+
+def lost_in(empty, after):
+    """Return how many of the empty seats are lost, which they are if somebody waits in the state after."""
+    return empty if after[1] or after[2] else 0
 
 
 def next_deed(rule, line, left, singles, mood):
@@ -180,8 +188,13 @@ def ways_to_states(setup, rule):
 
 def row_to_state(ways, state):
     """Return a row of comers, as short as any, that leads to a state among the ways."""
+    return [comers for _, comers in way_to(ways, state)]
+
+
+def way_to(ways, thing):
+    """Return the list of the tuples (thing before, what leads on) by which the first one leads to a thing."""
     backwards = []
-    while ways[state] is not None:
-        state, comers = ways[state]
-        backwards.append(comers)
+    while ways[thing] is not None:
+        backwards.append(ways[thing])
+        thing, _ = ways[thing]
     return backwards[::-1]
