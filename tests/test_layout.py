@@ -7,8 +7,12 @@ import pathlib
 import unittest
 
 import fillchairs.beats
+import fillchairs.best
 import fillchairs.errors
+import fillchairs.means
 import fillchairs.setups
+import fillchairs.standings
+import fillchairs.waits
 
 PACKAGE = pathlib.Path(fillchairs.errors.__file__).parent
 FILES = sorted(PACKAGE.rglob("*.py"))
@@ -26,6 +30,33 @@ FUNCTIONS = {
         "parted_by": ["setup", "rule", "row"],
         "all_states": ["setup", "rule"],
         "turned_away": ["setup", "rule"],
+    },
+    fillchairs.standings: {
+        "standing_of": ["setup", "state"],
+        "moves_of": ["setup", "rule", "standing"],
+        "all_standings": ["setup", "rule"],
+        "walk_row": ["setup", "rule", "walk"],
+    },
+    fillchairs.means: {
+        "greatest_mean": ["setup", "rule"],
+        "mean_ring": ["setup", "rule"],
+        "ring_holds": ["setup", "rule", "above", "below", "ring"],
+        "mean_paper": ["setup", "rule"],
+        "paper_holds": ["setup", "rule", "above", "below", "paper"],
+    },
+    fillchairs.best: {
+        "best_mean": ["setup"],
+        "filler_paper": ["setup"],
+        "foe_paper": ["setup"],
+        "filler_holds": ["setup", "above", "below", "paper"],
+        "foe_holds": ["setup", "above", "below", "paper"],
+    },
+    fillchairs.waits: {
+        "wait_of": ["setup", "rule", "row", "who", "number"],
+        "greatest_wait": ["setup", "rule", "who"],
+        "wait_row": ["setup", "rule", "who"],
+        "wait_paper": ["setup", "rule", "who"],
+        "waits_fall": ["setup", "rule", "who", "paper"],
     },
 }
 
@@ -61,8 +92,9 @@ class TestLanguage(unittest.TestCase):
 
     def test_there_are_files_to_look_at(self):
         names = [path.name for path in FILES]
-        for name in ("__init__.py", "errors.py", "setups.py", "beats.py"):
-            self.assertIn(name, names)
+        for module in FUNCTIONS:
+            self.assertIn(pathlib.Path(module.__file__).name, names)
+        self.assertIn("__init__.py", names)
 
     def test_only_python_files(self):
         others = [path for path in PACKAGE.rglob("*") if path.is_file() and path.suffix not in (".py", ".pyc")]
@@ -88,6 +120,21 @@ class TestLanguage(unittest.TestCase):
                 if isinstance(node, ast.ImportFrom):
                     self.assertEqual(node.level, 0)
                     self.assertTrue(node.module.startswith("fillchairs.") or node.module in allowed)
+
+    def test_no_imports_in_a_ring(self):
+        imports = {
+            path.stem: {
+                node.module.split(".")[1]
+                for node in ast.parse(path.read_text(encoding="utf-8")).body
+                if isinstance(node, ast.ImportFrom) and node.module.startswith("fillchairs.")
+            }
+            for path in FILES
+        }
+        free = set()
+        while len(free) < len(imports):
+            more = {name for name, needed in imports.items() if needed <= free} - free
+            self.assertNotEqual(more, set(), imports)
+            free |= more
 
     def test_builtins(self):
         for _, tree in self.trees():
