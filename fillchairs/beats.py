@@ -1,10 +1,12 @@
 """Beats: comers are let in, then the rule fills the chair, and it goes."""
 
-from fillchairs.errors import BadRow
-from fillchairs.setups import all_comers, check_rule, check_setup, is_comers
+from fillchairs.errors import BadRow, TooMany
+from fillchairs.setups import all_comers, check_rule, check_setup, is_comers, is_integer, is_tuple
 
 FIRST_STATE = (0, (), 0, 0)
 MOST_BEATS = 300
+# The deeds that a chair tells of.
+DEEDS_DONE = ("group", "single", "part")
 
 
 def chairs_of(setup, rule, row):
@@ -21,7 +23,7 @@ def state_after(setup, rule, row):
 
 def lost_by(setup, rule, row):
     """Return how many seats are lost in a row of comers, together."""
-    return sum([lost for _, _, lost, _ in chairs_of(setup, rule, row)])
+    return lost_together(chairs_of(setup, rule, row))
 
 
 def parted_by(setup, rule, row):
@@ -65,15 +67,25 @@ def play_on(setup, rule, state, row):
     return chairs, state
 
 
-def check_row(setup, thing):
-    """Raise BadRow if the object is no row of comers of the setup."""
+def check_row(setup, thing, most=MOST_BEATS):
+    """Raise BadRow if the object is no row of comers of the setup, of at most so many beats."""
     if not isinstance(thing, list):
         raise BadRow(-1)
-    for place, entry in enumerate(thing[:MOST_BEATS]):
+    for place, entry in enumerate(thing[:most]):
         if not is_comers(setup, entry):
             raise BadRow(place)
-    if len(thing) > MOST_BEATS:
-        raise BadRow(MOST_BEATS)
+    if len(thing) > most:
+        raise BadRow(most)
+
+
+def is_row(setup, thing):
+    """Return whether any object is a row of comers of the setup, of any number of beats."""
+    return isinstance(thing, list) and all([is_comers(setup, entry) for entry in thing])
+
+
+def is_deed(thing):
+    """Return whether any object is a tuple of the name of a deed that a chair tells of, and an integer."""
+    return is_tuple(thing, 2, 2) and isinstance(thing[0], str) and thing[0] in DEEDS_DONE and is_integer(thing[1])
 
 
 def play_beat(setup, rule, state, comers):
@@ -109,6 +121,11 @@ def fill_chair(setup, rule, waiting):
             done, line, left, singles = seat_some(deed, line, left, singles)
             deeds.append(done)
     return tuple(deeds), left, ((turn + 1) % len(seats), line, singles, mood)
+
+
+def lost_together(chairs):
+    """Return how many seats are lost in some chairs, together."""
+    return sum([lost for _, _, lost, _ in chairs])
 
 
 def lost_in(empty, after):
@@ -186,8 +203,29 @@ def ways_to_states(setup, rule):
     return ways
 
 
+def ways_from(first, steps_from, most=None):
+    """Return a dict of all things to which steps lead from the first one, those of fewer steps first.
+
+    steps_from gives a thing the list of (step, thing after it). With each thing stands a tuple of a thing one step
+    before it and this step, None with the first one. TooMany is raised if there are more things than most.
+    """
+    ways = {first: None}
+    order = [first]
+    at = 0
+    while at < len(order):
+        thing = order[at]
+        for step, after in steps_from(thing):
+            if after not in ways:
+                if len(order) == most:
+                    raise TooMany("too many to look through")
+                ways[after] = (thing, step)
+                order.append(after)
+        at += 1
+    return ways
+
+
 def row_to_state(ways, state):
-    """Return a row of comers, as short as any, that leads to a state among the ways."""
+    """Return a row of comers, as short as any, that leads to a state, or to another thing, among the ways."""
     return [comers for _, comers in way_to(ways, state)]
 
 

@@ -1,8 +1,8 @@
 """The long run: the greatest mean of lost seats, the rings that have it, and papers that show that no row has more."""
 
-from fillchairs.beats import FIRST_STATE, play_on, row_to_state, ways_to_states
+from fillchairs.beats import FIRST_STATE, is_row, lost_together, play_on, row_to_state, ways_to_states
 from fillchairs.ratios import around, check_fraction, greatest_ratio
-from fillchairs.setups import check_rule, check_setup, is_comers, is_integer, is_tuple
+from fillchairs.setups import check_rule, check_setup, is_integer, is_tuple
 from fillchairs.standings import all_steps, is_standing, moves_in, row_around, step_with
 
 
@@ -34,7 +34,7 @@ def ring_holds(setup, rule, above, below, ring):
         return False
     _, before = play_on(setup, rule, FIRST_STATE, ring[0])
     chairs, after = play_on(setup, rule, before, ring[1])
-    return after == before and below * sum([lost for _, _, lost, _ in chairs]) == above * len(chairs)
+    return after == before and below * lost_together(chairs) == above * len(chairs)
 
 
 def mean_paper(setup, rule):
@@ -72,9 +72,7 @@ def mean_graph(known):
 
 def is_pair_of_rows(setup, thing):
     """Return whether any object is a tuple of two lists of comers, of any number of beats."""
-    return is_tuple(thing, 2, 2) and all([
-        isinstance(row, list) and all([is_comers(setup, comers) for comers in row]) for row in thing
-    ])
+    return is_tuple(thing, 2, 2) and all([is_row(setup, row) for row in thing])
 
 
 def is_numbered_standing(setup, thing):

@@ -4,7 +4,7 @@ Whoever waits is followed from place to place. A place is a tuple (standing, ahe
 one who is followed has not been let in.
 """
 
-from fillchairs.beats import chairs_of, way_to
+from fillchairs.beats import chairs_of, way_to, ways_from
 from fillchairs.errors import BadNumber, BadWho
 from fillchairs.ratios import around, most_sums
 from fillchairs.setups import check_rule, check_setup, is_integer, is_number, is_tuple
@@ -26,7 +26,11 @@ NOBODY = ((), 0)
 
 def wait_of(setup, rule, row, who, number):
     """Return how many chairs went until a group or a single of a row sat, None if it does not sit."""
-    chairs = chairs_of(setup, rule, row)
+    return wait_in(row, chairs_of(setup, rule, row), who, number)
+
+
+def wait_in(row, chairs, who, number):
+    """Return how many chairs went until a group or a single of a row with these chairs sat, None if it does not sit."""
     at = index_of(who)
     came = []
     sat = []
@@ -146,18 +150,7 @@ def ways_to_places(known, at):
 
     Also those who have not been let in have places there; with the first one of these stands None.
     """
-    first = (FIRST_STANDING, None)
-    ways = {first: None}
-    order = [first]
-    passed = 0
-    while passed < len(order):
-        place = order[passed]
-        for step, after in moves_on(known, at, place):
-            if after not in ways:
-                ways[after] = (place, step)
-                order.append(after)
-        passed += 1
-    return ways
+    return ways_from((FIRST_STANDING, None), lambda place: moves_on(known, at, place))
 
 
 def numbered_places(known, at, ways):

@@ -139,6 +139,15 @@ def some_rule(dice):
     )
 
 
+def busy_rule(dice):
+    """A rule by dice that seats somebody more often than not, and whose moods come up."""
+    rows = list(some_rule(dice)[:4])
+    for mood in range(3):
+        deeds = dice.sample(("group", "single", "part"), 3)
+        rows += [always(deed, mood, dice.choice((0, mood))) for deed in deeds[: dice.randint(0, 2)]]
+    return tuple(rows[:8])
+
+
 def some_row(dice, setup, beats):
     """A row of comers by dice."""
     comers = plain_comers(setup)
