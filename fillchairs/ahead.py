@@ -168,7 +168,7 @@ def stages_of(setup, row, parts):
 
 
 def numbers_of(stages):
-    """Return for each number of beats a dict that gives each stage the least number of seats that must still be lost."""
+    """Return for each number of beats a dict of the least numbers of seats that must still be lost from its stages."""
     backwards = [{stage: 0 for stage in stages[-1]}]
     for steps in stages[-2::-1]:
         further = backwards[-1]

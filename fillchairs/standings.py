@@ -4,7 +4,7 @@ Nothing hangs on the size of a group before it comes to the front. So the sizes 
 from the last beat to the first one, and each walk of standings is that of a row.
 """
 
-from fillchairs.beats import FIRST_STATE, MOST_BEATS, fill_chair, let_in, lost_in, ways_to_states
+from fillchairs.beats import MOST_BEATS, fill_chair, let_in, lost_in, ways_to_states
 from fillchairs.errors import BadStanding, BadState, BadWalk
 from fillchairs.setups import all_comers, are_numbers, check_rule, check_setup, is_integer, is_number, is_tuple
 

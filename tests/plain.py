@@ -118,6 +118,16 @@ def some_setup(dice):
     )
 
 
+def small_setup(dice, groups, singles):
+    """A setup by dice with few states, at most so many groups and singles coming at a beat."""
+    return (
+        tuple(dice.randint(1, 4) for _ in range(dice.randint(1, 2))),
+        tuple(sorted(dice.sample(range(1, 6), dice.randint(1, 2)))),
+        (dice.randint(1, 2), dice.randint(0, 2)),
+        (dice.randint(0, groups), dice.randint(0, singles)),
+    )
+
+
 def some_rule(dice):
     """A rule by dice, whose ranges are wide more often than not."""
 
@@ -152,6 +162,19 @@ def some_row(dice, setup, beats):
     """A row of comers by dice."""
     comers = plain_comers(setup)
     return [dice.choice(comers) for _ in range(beats)]
+
+
+def like(dice, rule):
+    """A rule by dice that is somehow like another one."""
+    choice = dice.random()
+    if choice < 0.25:
+        return rule
+    if choice < 0.5 and rule:
+        at = dice.randrange(len(rule))
+        return rule[:at] + some_rule(dice)[:1] + rule[at + 1 :]
+    if choice < 0.75:
+        return rule[:-1]
+    return busy_rule(dice)
 
 
 def some_cases(seed, many, beats):

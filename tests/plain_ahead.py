@@ -1,6 +1,19 @@
 """A second, plain telling of somebody who sees the whole row ahead: all deeds in all orders."""
 
+import random
 from functools import lru_cache
+
+from tests.plain import some_row, some_setup
+
+
+def ahead_cases(seed, many, beats):
+    """Many (setup, row, parts), the same for the same seed."""
+    dice = random.Random(seed)
+    cases = []
+    for _ in range(many):
+        setup = some_setup(dice)
+        cases.append((setup, some_row(dice, setup, dice.randint(0, beats)), dice.choice((0, 0, 1, 2, 5, 10**59))))
+    return cases
 
 
 @lru_cache(maxsize=None)
@@ -86,7 +99,7 @@ def plain_deeds_lose(setup, row, deeds, parts):
 
 
 def is_ahead_paper(setup, row, most, paper, parts):
-    """Whether lists of (line, singles, parts, number) show that nobody loses less than most, by the document's words."""
+    """Whether lists of (line, singles, parts, number) show that nobody loses less than most."""
     if len(paper) != len(row) + 1:
         return False
     numbers = [{tuple(entry[:3]): entry[3] for entry in entries} for entries in paper]

@@ -4,32 +4,13 @@ import unittest
 from fillchairs.ahead import best_deeds, deeds_lose, least_lost, regret
 from fillchairs.beats import chairs_of, lost_by, parted_by
 from fillchairs.errors import BadNumber, BadRow, BadRule, BadSetup
-from tests.plain import (
-    EXAMPLE_RULE,
-    EXAMPLE_SETUP,
-    always,
-    busy_rule,
-    plain_chairs,
-    plain_comers,
-    some_row,
-    some_rule,
-    some_setup,
-)
-from tests.plain_ahead import chairs_after, least_by_trying, plain_deeds_lose, plain_stages
+from tests.plain import EXAMPLE_RULE, EXAMPLE_SETUP, always, busy_rule, plain_chairs, some_rule
+from tests.plain_ahead import ahead_cases, chairs_after, least_by_trying, plain_deeds_lose, plain_stages
 from tests.wrong import NO_INTEGERS, NO_LISTS, NO_RULES, NO_SETUPS
 
 SETUP = ((3, 2), (1, 2, 4), (2, 2), (2, 1))
 ROW = [((4, 2), 1), ((1,), 0), ((2, 2), 1), ((), 1)]
 NO_NUMBERS = (*NO_INTEGERS, -1, -2, -(10**59))
-
-
-def small_cases(seed, many, beats):
-    dice = random.Random(seed)
-    cases = []
-    for _ in range(many):
-        setup = some_setup(dice)
-        cases.append((setup, some_row(dice, setup, dice.randint(0, beats)), dice.choice((0, 0, 1, 2, 5, 10**59))))
-    return cases
 
 
 def some_deeds(dice, setup, row):
@@ -70,20 +51,21 @@ class TestLeastLost(unittest.TestCase):
         self.assertEqual(least_lost(setup, row, parts=10**59), 0)
 
     def test_parts_enough_lose_nothing(self):
-        for setup, row, _ in small_cases(341, 100, 16):
+        for setup, row, _ in ahead_cases(341, 100, 16):
             self.assertEqual(least_lost(setup, row, parts=16), 0)
 
     def test_against_all_deeds(self):
-        for setup, row, parts in small_cases(342, 150, 3):
-            self.assertEqual(least_lost(setup, row, parts=parts), least_by_trying(setup, row, parts), (setup, row, parts))
+        for setup, row, parts in ahead_cases(342, 150, 3):
+            least = least_by_trying(setup, row, parts)
+            self.assertEqual(least_lost(setup, row, parts=parts), least, (setup, row, parts))
 
     def test_against_stages(self):
-        for setup, row, parts in small_cases(343, 60, 16):
+        for setup, row, parts in ahead_cases(343, 60, 16):
             numbers = plain_stages(setup, row, parts)
             self.assertEqual(least_lost(setup, row, parts=parts), numbers[0][(), 0, parts])
 
     def test_parts_of_none_if_none_are_told(self):
-        for setup, row, _ in small_cases(344, 40, 5):
+        for setup, row, _ in ahead_cases(344, 40, 5):
             self.assertEqual(least_lost(setup, row), least_lost(setup, row, parts=0))
 
     def test_rows_of_sixteen_and_seventeen_beats(self):
@@ -120,7 +102,7 @@ class TestLeastLost(unittest.TestCase):
 
 class TestBestDeeds(unittest.TestCase):
     def test_they_lose_so_few(self):
-        for setup, row, parts in small_cases(345, 200, 16):
+        for setup, row, parts in ahead_cases(345, 200, 16):
             deeds = best_deeds(setup, row, parts=parts)
             least = least_lost(setup, row, parts=parts)
             self.assertEqual(plain_deeds_lose(setup, row, deeds, parts), least, (setup, row, parts))
@@ -147,7 +129,7 @@ class TestDeedsLose(unittest.TestCase):
     def test_right_deeds(self):
         dice = random.Random(346)
         parted = 0
-        for setup, row, parts in small_cases(347, 200, 16):
+        for setup, row, parts in ahead_cases(347, 200, 16):
             deeds = some_deeds(dice, setup, row)
             lost = plain_deeds_lose(setup, row, deeds, parts)
             parted += lost is None
@@ -158,7 +140,7 @@ class TestDeedsLose(unittest.TestCase):
         self.assertGreater(parted, 5)
 
     def test_the_deeds_of_chairs(self):
-        for setup, row, _ in small_cases(348, 60, 16):
+        for setup, row, _ in ahead_cases(348, 60, 16):
             rule = busy_rule(random.Random(len(row)))
             deeds = [chair[0] for chair in chairs_of(setup, rule, row)]
             parts = parted_by(setup, rule, row)
@@ -181,7 +163,7 @@ class TestDeedsLose(unittest.TestCase):
         dice = random.Random(349)
         others = [(name, number) for name in ("group", "single", "part", "go") for number in range(6)]
         answers = []
-        for setup, row, _ in small_cases(350, 60, 5):
+        for setup, row, _ in ahead_cases(350, 60, 5):
             deeds = some_deeds(dice, setup, row)
             for at, done in enumerate(deeds):
                 for place in range(len(done) + 1):
@@ -258,7 +240,7 @@ class TestRegret(unittest.TestCase):
     def test_against_lost_by_and_least_lost(self):
         found = set()
         dice = random.Random(351)
-        for setup, row, _ in small_cases(352, 150, 16):
+        for setup, row, _ in ahead_cases(352, 150, 16):
             rule = busy_rule(dice) if dice.random() < 0.6 else some_rule(dice)
             chairs, _ = plain_chairs(setup, rule, row)
             parted = len([1 for chair in chairs for name, _ in chair[0] if name == "part"])

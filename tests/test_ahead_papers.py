@@ -3,22 +3,12 @@ import unittest
 
 from fillchairs.ahead import ahead_holds, ahead_paper, least_lost
 from fillchairs.errors import BadNumber, BadRow
-from tests.plain import some_row, some_setup
-from tests.plain_ahead import is_ahead_paper, plain_stages
+from tests.plain_ahead import ahead_cases, is_ahead_paper, plain_stages
 from tests.wrong import NO_INTEGERS, NO_LISTS, NO_TUPLES
 
 SETUP = ((3, 2), (1, 2, 4), (2, 2), (2, 1))
 ROW = [((2, 2), 0), ((4, 4), 1), ((2, 4), 0), ((4, 4), 0)]
 NO_NUMBERS = (*NO_INTEGERS, -1, -2, -(10**59))
-
-
-def small_cases(seed, many, beats):
-    dice = random.Random(seed)
-    cases = []
-    for _ in range(many):
-        setup = some_setup(dice)
-        cases.append((setup, some_row(dice, setup, dice.randint(0, beats)), dice.choice((0, 0, 1, 2, 5, 10**59))))
-    return cases
 
 
 class TestAheadPaper(unittest.TestCase):
@@ -38,7 +28,7 @@ class TestAheadPaper(unittest.TestCase):
         ])
 
     def test_against_deeds_of_all_kinds(self):
-        for setup, row, parts in small_cases(361, 120, 8):
+        for setup, row, parts in ahead_cases(361, 120, 8):
             paper = ahead_paper(setup, row, parts=parts)
             numbers = plain_stages(setup, row, parts)
             self.assertEqual(paper, [sorted((*stage, number) for stage, number in found.items()) for found in numbers])
@@ -100,7 +90,7 @@ class TestAheadHolds(unittest.TestCase):
             self.assertFalse(self.holds(self.paper, most))
 
     def test_papers_of_all_kinds(self):
-        for setup, row, parts in small_cases(362, 80, 10):
+        for setup, row, parts in ahead_cases(362, 80, 10):
             paper = ahead_paper(setup, row, parts=parts)
             least = least_lost(setup, row, parts=parts)
             self.assertTrue(self.holds(paper, least, parts, setup, row))
@@ -216,7 +206,8 @@ class TestAheadHolds(unittest.TestCase):
                 self.assertFalse(self.holds(self.changed(beat, at, entry)))
 
     def test_any_object(self):
-        for paper in (*NO_LISTS, tuple(self.paper), dict(enumerate(self.paper)), [tuple(found) for found in self.paper]):
+        tuples = [tuple(found) for found in self.paper]
+        for paper in (*NO_LISTS, tuple(self.paper), dict(enumerate(self.paper)), tuples):
             self.assertFalse(self.holds(paper))
         for entries in NO_LISTS:
             for beat in range(len(self.paper)):
@@ -227,11 +218,12 @@ class TestAheadHolds(unittest.TestCase):
     def test_changed_by_dice(self):
         dice = random.Random(364)
         answers = []
-        for setup, row, parts in small_cases(365, 80, 4):
+        for setup, row, parts in ahead_cases(365, 80, 4):
             paper = ahead_paper(setup, row, parts=parts)
             for _ in range(4):
                 changed = [
-                    [(*entry[:3], max(0, entry[3] - dice.choice((0, 0, 0, 1, 1, 2)))) for entry in found] for found in paper
+                    [(*entry[:3], max(0, entry[3] - dice.choice((0, 0, 0, 1, 1, 2)))) for entry in found]
+                    for found in paper
                 ]
                 if dice.random() < 0.3:
                     entries = dice.choice(changed)

@@ -3,7 +3,17 @@ import unittest
 
 from fillchairs.back import next_seen, row_back, rows_counted, sizes_back, states_back
 from fillchairs.errors import BadRule, BadSeen, BadSetup
-from tests.plain import EXAMPLE_RULE, EXAMPLE_SETUP, always, busy_rule, plain_chairs, plain_comers, some_row, some_rule
+from tests.plain import (
+    EXAMPLE_RULE,
+    EXAMPLE_SETUP,
+    always,
+    busy_rule,
+    plain_chairs,
+    plain_comers,
+    small_setup,
+    some_row,
+    some_rule,
+)
 from tests.plain_long import FIRST, plain_beat
 from tests.plain_pairs import rows_by_seen, seen_of, sizes_let_in
 from tests.wrong import NO_LISTS, NO_RULES, NO_SETUPS, NO_TUPLES
@@ -13,18 +23,9 @@ GROUP_OF_1 = ((("group", 1),), 1)
 GROUP_OF_2 = ((("group", 2),), 0)
 
 
-def small_setup(dice):
-    return (
-        tuple(dice.randint(1, 4) for _ in range(dice.randint(1, 2))),
-        tuple(sorted(dice.sample(range(1, 6), dice.randint(1, 2)))),
-        (dice.randint(1, 2), dice.randint(0, 2)),
-        (dice.randint(0, 1), dice.randint(0, 2)),
-    )
-
-
 def small_cases(seed, many):
     dice = random.Random(seed)
-    return [(small_setup(dice), dice.choice((busy_rule, some_rule))(dice)) for _ in range(many)]
+    return [(small_setup(dice, 1, 2), dice.choice((busy_rule, some_rule))(dice)) for _ in range(many)]
 
 
 def some_sight(dice, setup):

@@ -6,21 +6,12 @@ from fractions import Fraction
 from fillchairs.ahead import best_order, best_rules, foes_of
 from fillchairs.errors import BadRule, BadSetup, TooMany
 from fillchairs.means import ring_holds
-from tests.plain import EXAMPLE_RULE, EXAMPLE_SETUP, always, busy_rule, plain_chairs, some_rule
+from tests.plain import EXAMPLE_RULE, EXAMPLE_SETUP, always, busy_rule, plain_chairs, small_setup, some_rule
 from tests.plain_long import FIRST, lost_edges, mean_by_walks, plain_graph
 from tests.wrong import NO_LISTS, NO_RULES, NO_SETUPS
 
 GROUPS = (always("group"), always("single"))
 SINGLES = (always("single"), always("group"))
-
-
-def small_setup(dice):
-    return (
-        tuple(dice.randint(1, 4) for _ in range(dice.randint(1, 2))),
-        tuple(sorted(dice.sample(range(1, 5), dice.randint(1, 2)))),
-        (dice.randint(1, 2), dice.randint(0, 2)),
-        (dice.randint(0, 1), dice.randint(0, 1)),
-    )
 
 
 def plain_mean(setup, rule):
@@ -50,7 +41,7 @@ class TestBestRules(unittest.TestCase):
     def test_against_plain_means(self):
         dice = random.Random(371)
         for _ in range(60):
-            setup, rules = small_setup(dice), some_rules(dice)
+            setup, rules = small_setup(dice, 1, 1), some_rules(dice)
             means = [plain_mean(setup, rule) for rule in rules]
             above, below, places = best_rules(setup, rules)
             self.assertEqual(Fraction(above, below), min(means))
@@ -87,7 +78,7 @@ class TestFoes(unittest.TestCase):
         dice = random.Random(372)
         rings = 0
         for _ in range(60):
-            setup, rules = small_setup(dice), some_rules(dice)
+            setup, rules = small_setup(dice, 1, 1), some_rules(dice)
             above, below, places = best_rules(setup, rules)
             foes = foes_of(setup, rules)
             self.assertIs(type(foes), list)
@@ -121,7 +112,7 @@ class TestBestOrder(unittest.TestCase):
         dice = random.Random(373)
         many = set()
         for _ in range(50):
-            setup, rule = small_setup(dice), busy_rule(dice)[: dice.randint(0, 4)]
+            setup, rule = small_setup(dice, 1, 1), busy_rule(dice)[: dice.randint(0, 4)]
             if dice.random() < 0.3 and rule:
                 rule = (rule * 2)[:4]
             means = {order: plain_mean(setup, order) for order in itertools.permutations(rule)}

@@ -1,25 +1,50 @@
-"""What holds for each function that looks at endless rows: its errors in order, its arguments, and what it returns."""
+"""What holds for each function that takes a setup: its errors in order, its arguments, and what it returns."""
 
 import copy
 import itertools
 import unittest
 
+from fillchairs.ahead import (
+    ahead_holds,
+    ahead_paper,
+    best_deeds,
+    best_order,
+    best_rules,
+    deeds_lose,
+    foes_of,
+    least_lost,
+    regret,
+)
+from fillchairs.back import (
+    next_seen,
+    row_back,
+    rows_counted,
+    seen_within,
+    sizes_back,
+    states_back,
+    within_holds,
+)
 from fillchairs.best import best_mean, filler_holds, filler_paper, foe_holds, foe_paper
+from fillchairs.compared import alike_holds, gap_holds, gap_paper, greatest_gap, rules_alike
 from fillchairs.errors import (
     BadFraction,
     BadNumber,
     BadRow,
     BadRule,
+    BadSeen,
     BadSetup,
     BadStanding,
     BadState,
+    BadText,
     BadWalk,
     BadWho,
     ChairError,
     TooMany,
 )
 from fillchairs.means import greatest_mean, mean_paper, mean_ring, paper_holds, ring_holds
+from fillchairs.more import one_more, one_more_holds
 from fillchairs.standings import all_standings, moves_of, standing_of, walk_row
+from fillchairs.texts import read_row
 from fillchairs.waits import greatest_wait, wait_of, wait_paper, wait_row, waits_fall
 from tests.plain import EXAMPLE_RULE, EXAMPLE_SETUP
 from tests.wrong import NO_FRACTIONS, NO_LISTS, NO_RULES, NO_SETUPS, NO_TUPLES, NO_WHOS
@@ -29,6 +54,11 @@ WALK = [(1, (0, 2, 0, 0, 0)), (0, (0, 1, 0, 0, 0))]
 ROW = [((1, 2), 1), ((1,), 1)]
 FRACTION = (("above", 1), ("below", 2))
 WHO = ("who", "group")
+OTHER = EXAMPLE_RULE[::-1]
+SEEN = [((("group", 1), ("single", 1)), 0)]
+BOTH = {"setup": EXAMPLE_SETUP, "rule": EXAMPLE_RULE}
+THREE = {**BOTH, "other": OTHER}
+AHEAD = {"setup": EXAMPLE_SETUP, "row": ROW}
 
 # Each function with right arguments, by name, in the order of its parameters.
 CALLS = (
@@ -68,6 +98,37 @@ CALLS = (
             "paper": wait_paper(EXAMPLE_SETUP, EXAMPLE_RULE, "group"),
         },
     ),
+    (one_more, BOTH),
+    (one_more, {**BOTH, "rule": OTHER}),
+    (one_more_holds, {**BOTH, "answer": one_more(EXAMPLE_SETUP, EXAMPLE_RULE)}),
+    (one_more_holds, {**BOTH, "rule": OTHER, "answer": one_more(EXAMPLE_SETUP, OTHER)}),
+    (rules_alike, THREE),
+    (rules_alike, {**THREE, "other": EXAMPLE_RULE}),
+    (alike_holds, {**THREE, "answer": rules_alike(EXAMPLE_SETUP, EXAMPLE_RULE, OTHER)}),
+    (greatest_gap, {**THREE, "other": ()}),
+    (gap_paper, {**THREE, "other": ()}),
+    (gap_paper, {**THREE, "rule": ()}),
+    (gap_holds, {**THREE, "other": (), "paper": gap_paper(EXAMPLE_SETUP, EXAMPLE_RULE, ())}),
+    (gap_holds, {**THREE, "rule": (), "paper": gap_paper(EXAMPLE_SETUP, (), OTHER)}),
+    (least_lost, {**AHEAD, "parts": 1}),
+    (best_deeds, {**AHEAD, "parts": 1}),
+    (deeds_lose, {**AHEAD, "deeds": best_deeds(EXAMPLE_SETUP, ROW, parts=1), "parts": 1}),
+    (regret, {**BOTH, "row": ROW}),
+    (ahead_paper, {**AHEAD, "parts": 1}),
+    (ahead_holds, {**AHEAD, "most": 0, "paper": ahead_paper(EXAMPLE_SETUP, ROW, parts=1), "parts": 1}),
+    (best_rules, {"setup": EXAMPLE_SETUP, "rules": [EXAMPLE_RULE, OTHER, ()]}),
+    (foes_of, {"setup": EXAMPLE_SETUP, "rules": [EXAMPLE_RULE, OTHER, ()]}),
+    (best_order, BOTH),
+    (states_back, {**BOTH, "seen": SEEN}),
+    (row_back, {**BOTH, "seen": SEEN}),
+    (next_seen, {**BOTH, "seen": SEEN}),
+    (rows_counted, {**BOTH, "seen": SEEN}),
+    (sizes_back, {**BOTH, "seen": SEEN}),
+    (seen_within, THREE),
+    (seen_within, {**THREE, "other": ()}),
+    (within_holds, {**THREE, "answer": seen_within(EXAMPLE_SETUP, EXAMPLE_RULE, OTHER)}),
+    (within_holds, {**THREE, "other": (), "answer": seen_within(EXAMPLE_SETUP, EXAMPLE_RULE, ())}),
+    (read_row, {"setup": EXAMPLE_SETUP, "text": "12+1 -+0"}),
 )
 
 # What a function raises for these objects in the place of a parameter; the others accept any object.
@@ -82,8 +143,34 @@ WRONG = {
     "below": (BadFraction, (0, -1, True, None, "1")),
     "who": (BadWho, NO_WHOS),
     "number": (BadNumber, (-1, 99, True, None, "0")),
+    "other": (BadRule, NO_RULES),
+    "most": (BadNumber, (-1, True, None, "0")),
+    "parts": (BadNumber, (-1, True, None, "0")),
+    "rules": (BadRule, (*NO_LISTS, [], [None], [()] * 9)),
+    "seen": (BadSeen, (*NO_LISTS, [None], [((), 6)], [((), 0)] * 31)),
+    "text": (BadText, (*NO_TUPLES[:4], "x", " ")),
 }
-JUDGES = (ring_holds, paper_holds, filler_holds, foe_holds, waits_fall)
+JUDGES = (
+    ring_holds,
+    paper_holds,
+    filler_holds,
+    foe_holds,
+    waits_fall,
+    one_more_holds,
+    alike_holds,
+    gap_holds,
+    ahead_holds,
+    within_holds,
+)
+# What a judge judges, and what is passed by name only.
+JUDGED = ("ring", "paper", "answer")
+BY_NAME = ("parts",)
+
+
+def split_names(right):
+    """The arguments that may be passed by position, and those that are passed by name only."""
+    by_name = {name: right[name] for name in right if name in BY_NAME}
+    return [right[name] for name in right if name not in by_name], by_name
 
 
 def without_iterators(things):
@@ -115,17 +202,18 @@ class TestErrors(unittest.TestCase):
     def test_all_wrong(self):
         for function, right in CALLS:
             with self.assertRaises(BadSetup):
-                function(*[None] * len(right))
+                function(**dict.fromkeys(right))
 
     def test_judges_look_at_the_paper_last(self):
         for function, right in CALLS:
             if function in JUDGES:
-                last = list(right)[-1]
+                (judged,) = [name for name in right if name in JUDGED]
                 for wrong in NO_LISTS:
-                    self.assertIs(function(**{**right, last: wrong}), False)
-                    for name in list(right)[:-1]:
-                        with self.assertRaises(WRONG[name][0]):
-                            function(**{**right, name: WRONG[name][1][0], last: wrong})
+                    self.assertIs(function(**{**right, judged: wrong}), False)
+                    for name in right:
+                        if name != judged:
+                            with self.assertRaises(WRONG[name][0]):
+                                function(**{**right, name: WRONG[name][1][0], judged: wrong})
 
     def test_fractions(self):
         for function, right in CALLS:
@@ -149,11 +237,15 @@ class TestErrors(unittest.TestCase):
 class TestArguments(unittest.TestCase):
     def test_by_position_and_by_name_in_any_order(self):
         for function, right in CALLS:
-            answer = function(*right.values())
+            by_position, by_name = split_names(right)
+            answer = function(*by_position, **by_name)
             self.assertEqual(function(**right), answer)
             self.assertEqual(function(**dict(reversed(right.items()))), answer)
             first, *others = right
             self.assertEqual(function(right[first], **{name: right[name] for name in others}), answer)
+            if by_name:
+                with self.assertRaises(TypeError):
+                    function(*right.values())
 
     def test_what_is_passed_stays_as_it_was(self):
         for function, right in CALLS:
@@ -196,7 +288,7 @@ class TestAnswers(unittest.TestCase):
             passed = self.lists_in(tuple(right.values()))
             for found in self.lists_in(function(**right)):
                 self.assertFalse(any(found is other for other in passed))
-        self.assertGreaterEqual(many, 10)
+        self.assertGreaterEqual(many, 35)
 
     def test_what_is_passed_is_not_kept(self):
         for function, right in CALLS:
@@ -216,21 +308,37 @@ class TestAnswers(unittest.TestCase):
             walk_row: list,
             greatest_mean: tuple,
             mean_ring: tuple,
-            ring_holds: bool,
             mean_paper: list,
-            paper_holds: bool,
             best_mean: tuple,
             filler_paper: list,
             foe_paper: list,
-            filler_holds: bool,
-            foe_holds: bool,
             wait_of: int,
             greatest_wait: int,
             wait_row: tuple,
             wait_paper: list,
-            waits_fall: bool,
+            one_more: tuple,
+            rules_alike: tuple,
+            least_lost: int,
+            best_deeds: list,
+            deeds_lose: int,
+            regret: int,
+            ahead_paper: list,
+            best_rules: tuple,
+            foes_of: list,
+            best_order: tuple,
+            states_back: list,
+            row_back: list,
+            next_seen: list,
+            rows_counted: int,
+            sizes_back: list,
+            seen_within: tuple,
+            read_row: list,
+            greatest_gap: int,
+            **dict.fromkeys(JUDGES, bool),
         }
         for function, right in CALLS:
+            if function is gap_paper:
+                kinds[gap_paper] = list if right["rule"] else tuple
             self.assertIs(type(function(**right)), kinds[function], function)
             if function in JUDGES:
                 self.assertIs(function(**right), True)

@@ -4,7 +4,7 @@ import unittest
 from fillchairs.compared import alike_holds, gap_holds, gap_paper, greatest_gap, rules_alike
 from fillchairs.errors import BadRule, BadSetup, TooMany
 from tests.edges import GAPS
-from tests.plain import EXAMPLE_RULE, EXAMPLE_SETUP, always, busy_rule, plain_chairs, plain_comers, some_row, some_rule
+from tests.plain import always, busy_rule, like, plain_chairs, plain_comers, small_setup, some_row
 from tests.plain_long import FIRST, plain_beat
 from tests.plain_pairs import Both, is_gap_list
 from tests.wrong import NO_INTEGERS, NO_LISTS, NO_RULES, NO_SETUPS, NO_TUPLES
@@ -13,15 +13,6 @@ SETUP = ((2,), (1, 2), (2, 1), (1, 1))
 GROUPS = (always("group"), always("single"))
 SINGLES = (always("single"), always("group"))
 FIRSTS = (FIRST, FIRST)
-
-
-def small_setup(dice):
-    return (
-        tuple(dice.randint(1, 4) for _ in range(dice.randint(1, 2))),
-        tuple(sorted(dice.sample(range(1, 5), dice.randint(1, 2)))),
-        (dice.randint(1, 2), dice.randint(0, 2)),
-        (dice.randint(0, 1), dice.randint(1, 2)),
-    )
 
 
 def other_moods(rule):
@@ -43,21 +34,6 @@ def with_dead_rows(dice, rule):
     return (rule[:at] + (dice.choice(dead),) + rule[at:])[:8]
 
 
-def like(dice, rule):
-    """A rule that is somehow like another one."""
-    choice = dice.random()
-    if choice < 0.2:
-        return other_moods(rule)
-    if choice < 0.4:
-        return with_dead_rows(dice, rule)
-    if choice < 0.7 and rule:
-        at = dice.randrange(len(rule))
-        return rule[:at] + some_rule(dice)[:1] + rule[at + 1 :]
-    if choice < 0.75:
-        return rule
-    return busy_rule(dice)
-
-
 def once_unlike(dice):
     """Two rules by dice that seat as many as they can, but for one chair or a few by the first one."""
     deeds = dice.sample(("group", "single", "part"), 3)
@@ -72,8 +48,10 @@ def small_cases(seed, many):
     dice = random.Random(seed)
     cases = []
     while len(cases) < many:
-        setup, rule = small_setup(dice), busy_rule(dice)
-        other = like(dice, rule)
+        setup, rule = small_setup(dice, 1, 2), busy_rule(dice)
+        other = dice.choice((like(dice, rule), other_moods(rule), with_dead_rows(dice, rule[:7])))
+        if dice.random() < 0.3:
+            other = busy_rule(dice)
         if dice.random() < 0.2:
             rule, other = once_unlike(dice)
         if len(Both(setup, rule, other).pairs()) <= 600:

@@ -6,12 +6,19 @@ import inspect
 import pathlib
 import unittest
 
+import fillchairs.ahead
+import fillchairs.back
 import fillchairs.beats
 import fillchairs.best
+import fillchairs.compared
+import fillchairs.desk
 import fillchairs.errors
+import fillchairs.live
 import fillchairs.means
+import fillchairs.more
 import fillchairs.setups
 import fillchairs.standings
+import fillchairs.texts
 import fillchairs.waits
 
 PACKAGE = pathlib.Path(fillchairs.errors.__file__).parent
@@ -58,12 +65,83 @@ FUNCTIONS = {
         "wait_paper": ["setup", "rule", "who"],
         "waits_fall": ["setup", "rule", "who", "paper"],
     },
+    fillchairs.more: {
+        "one_more": ["setup", "rule"],
+        "one_more_holds": ["setup", "rule", "answer"],
+    },
+    fillchairs.compared: {
+        "rules_alike": ["setup", "rule", "other"],
+        "alike_holds": ["setup", "rule", "other", "answer"],
+        "greatest_gap": ["setup", "rule", "other"],
+        "gap_paper": ["setup", "rule", "other"],
+        "gap_holds": ["setup", "rule", "other", "paper"],
+    },
+    fillchairs.ahead: {
+        "least_lost": ["setup", "row", "*parts=0"],
+        "best_deeds": ["setup", "row", "*parts=0"],
+        "deeds_lose": ["setup", "row", "deeds", "*parts=0"],
+        "regret": ["setup", "rule", "row"],
+        "ahead_paper": ["setup", "row", "*parts=0"],
+        "ahead_holds": ["setup", "row", "most", "paper", "*parts=0"],
+        "best_rules": ["setup", "rules"],
+        "foes_of": ["setup", "rules"],
+        "best_order": ["setup", "rule"],
+    },
+    fillchairs.back: {
+        "states_back": ["setup", "rule", "seen"],
+        "row_back": ["setup", "rule", "seen"],
+        "next_seen": ["setup", "rule", "seen"],
+        "sizes_back": ["setup", "rule", "seen"],
+        "rows_counted": ["setup", "rule", "seen"],
+        "seen_within": ["setup", "rule", "other"],
+        "within_holds": ["setup", "rule", "other", "answer"],
+    },
+    fillchairs.texts: {
+        "show_setup": ["setup"],
+        "show_rule": ["rule"],
+        "show_row": ["row"],
+        "show_chair": ["chair"],
+        "read_setup": ["text"],
+        "read_rule": ["text"],
+        "read_row": ["setup", "text"],
+    },
+}
+
+METHODS = {
+    fillchairs.live.Lift: {
+        "__init__": ["setup", "rule=()"],
+        "beat": ["groups", "singles"],
+        "play": ["row"],
+        "change_rule": ["rule"],
+        "undo": [],
+        "row": [],
+        "chairs": [],
+        "state": [],
+        "rule": [],
+        "lost": [],
+        "waits": ["who", "number"],
+        "try_rows": ["rows", "*rule=None"],
+        "copy": [],
+        "__len__": [],
+        "__iter__": [],
+    },
+    fillchairs.desk.Desk: {"__init__": [], "say": ["row"]},
 }
 
 ALLOWED_BUILTINS = """
     len range enumerate zip min max sum abs sorted reversed int str bool list tuple dict set isinstance
-    ord repr any all divmod iter next super ValueError KeyError ZeroDivisionError TypeError
+    ord repr any all divmod iter next super property ValueError KeyError ZeroDivisionError TypeError
 """.split()
+
+
+def told_parameters(function):
+    """The parameters of a function as FUNCTIONS tells them: those by name only behind a star."""
+    told = []
+    for parameter in inspect.signature(function).parameters.values():
+        star = {inspect.Parameter.POSITIONAL_OR_KEYWORD: "", inspect.Parameter.KEYWORD_ONLY: "*"}[parameter.kind]
+        default = "" if parameter.default is inspect.Parameter.empty else f"={parameter.default!r}"
+        told.append(star + parameter.name + default)
+    return told
 
 
 class TestInterface(unittest.TestCase):
@@ -73,11 +151,17 @@ class TestInterface(unittest.TestCase):
                 with self.subTest(name):
                     function = getattr(module, name)
                     self.assertEqual(function.__module__, module.__name__)
-                    told = inspect.signature(function).parameters.values()
-                    self.assertEqual([parameter.name for parameter in told], parameters)
-                    for parameter in told:
-                        self.assertIs(parameter.kind, inspect.Parameter.POSITIONAL_OR_KEYWORD)
-                        self.assertIs(parameter.default, inspect.Parameter.empty)
+                    self.assertEqual(told_parameters(function), parameters)
+
+    def test_methods_stand_in_their_classes(self):
+        for kind, methods in METHODS.items():
+            for name, parameters in methods.items():
+                with self.subTest(f"{kind.__name__}.{name}"):
+                    self.assertIn(name, vars(kind))
+                    self.assertEqual(told_parameters(vars(kind)[name]), ["self", *parameters])
+        for name in ("__eq__", "__getitem__", "waiting"):
+            self.assertIn(name, vars(fillchairs.live.Lift))
+        self.assertIsInstance(vars(fillchairs.live.Lift)["waiting"], property)
 
     def test_errors_stand_in_their_file(self):
         for name, thing in vars(fillchairs.errors).items():
@@ -135,6 +219,36 @@ class TestLanguage(unittest.TestCase):
             more = {name for name, needed in imports.items() if needed <= free} - free
             self.assertNotEqual(more, set(), imports)
             free |= more
+
+    def test_names_of_a_file_are_not_used_again_in_it(self):
+        for _, tree in self.trees():
+            taken = set()
+            for node in tree.body:
+                if isinstance(node, ast.ImportFrom):
+                    taken |= {alias.name for alias in node.names}
+                if isinstance(node, ast.ClassDef):
+                    taken.add(node.name)
+            for node in ast.walk(tree):
+                if isinstance(node, ast.arg):
+                    self.assertNotIn(node.arg, taken)
+                if isinstance(node, ast.Name) and isinstance(node.ctx, ast.Store):
+                    self.assertNotIn(node.id, taken)
+
+    def test_no_words_that_are_barred(self):
+        barred = "type typing enum keys mro open input law elements register namedtuple Meta metaclass".split()
+        for text, tree in self.trees():
+            for node in ast.walk(tree):
+                names = [getattr(node, part, None) for part in ("id", "attr", "arg", "name")]
+                self.assertEqual([name for name in names if name in barred], [])
+                self.assertNotIsInstance(node, (ast.Try, ast.Global, ast.AsyncFunctionDef, ast.Yield))
+
+    def test_each_import_is_used(self):
+        for _, tree in self.trees():
+            used = {node.id for node in ast.walk(tree) if isinstance(node, ast.Name)}
+            for node in tree.body:
+                if isinstance(node, ast.ImportFrom):
+                    for alias in node.names:
+                        self.assertIn(alias.name, used)
 
     def test_builtins(self):
         for _, tree in self.trees():

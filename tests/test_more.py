@@ -4,8 +4,8 @@ import unittest
 from fillchairs.errors import TooMany
 from fillchairs.more import one_more, one_more_holds
 from tests.edges import MORE
-from tests.plain import EXAMPLE_RULE, EXAMPLE_SETUP, always, plain_chairs, plain_comers, some_rule
-from tests.plain_long import FIRST, plain_graph
+from tests.plain import EXAMPLE_RULE, EXAMPLE_SETUP, always, plain_chairs, plain_comers, small_setup, some_rule
+from tests.plain_long import plain_graph
 from tests.plain_pairs import calm, is_calm, more_by_rows, pairs_after, plain_more, with_one_more
 from tests.wrong import NO_INTEGERS, NO_LISTS, NO_TUPLES
 
@@ -15,21 +15,12 @@ SINGLES_FIRST = (always("single"), always("group"))
 GROUPS_FIRST = (always("group"), always("single"))
 
 
-def small_setup(dice):
-    return (
-        tuple(dice.randint(1, 4) for _ in range(dice.randint(1, 2))),
-        tuple(sorted(dice.sample(range(1, 5), dice.randint(1, 2)))),
-        (dice.randint(1, 2), dice.randint(0, 3)),
-        (dice.randint(0, 2), dice.randint(0, 2)),
-    )
-
-
 def small_cases(seed, many):
     """Setups and rules by dice with at most six hundred pairs; in some of them one single more is worse."""
     dice = random.Random(seed)
     cases = []
     while len(cases) < many:
-        setup, rule = small_setup(dice), some_rule(dice)
+        setup, rule = small_setup(dice, 2, 2), some_rule(dice)
         if dice.random() < 0.6:
             rule = rule[:3] + SINGLES_FIRST
         if len(plain_more(setup, rule)[1]) <= 600:
@@ -127,7 +118,8 @@ class TestOneMore(unittest.TestCase):
             self.assertEqual(any(is_worse(pair) for pair in pairs), answer[0] == "row" and len(answer[1]) <= 3)
 
     def test_places_later_than_the_first(self):
-        places = {one_more(setup, rule)[2] for setup, rule in small_cases(303, 150) if one_more(setup, rule)[0] == "row"}
+        answers = [one_more(setup, rule) for setup, rule in small_cases(303, 150)]
+        places = {answer[2] for answer in answers if answer[0] == "row"}
         self.assertIn(0, places)
         self.assertGreater(len(places), 1)
 

@@ -5,7 +5,7 @@ from fillchairs.back import seen_within, within_holds
 from fillchairs.beats import all_states
 from fillchairs.errors import TooMany
 from tests.edges import WITHIN
-from tests.plain import EXAMPLE_RULE, EXAMPLE_SETUP, always, busy_rule, plain_chairs, plain_comers, some_row, some_rule
+from tests.plain import always, busy_rule, like, plain_chairs, plain_comers, small_setup, some_row
 from tests.plain_long import FIRST, plain_beat
 from tests.plain_pairs import plain_within, rows_by_seen, seen_of
 from tests.wrong import NO_LISTS, NO_TUPLES
@@ -16,36 +16,12 @@ RULE = (always("group"), always("single"))
 OTHER = ((0, (0, 9), (0, 9), (0, 0), "group", 0), always("group", 0, 0), always("single", 0, 0))
 
 
-def small_setup(dice):
-    return (
-        tuple(dice.randint(1, 3) for _ in range(dice.randint(1, 2))),
-        tuple(sorted(dice.sample(range(1, 5), dice.randint(1, 2)))),
-        (dice.randint(1, 2), dice.randint(0, 2)),
-        (dice.randint(0, 1), dice.randint(0, 2)),
-    )
-
-
-def like(dice, rule):
-    """A rule that is somehow like another one."""
-    choice = dice.random()
-    if choice < 0.3:
-        return rule[:-1]
-    if choice < 0.5:
-        return ((0, (6, 9), (0, 9), (0, 9), "go", 1), *rule)[:8]
-    if choice < 0.7 and rule:
-        at = dice.randrange(len(rule))
-        return rule[:at] + some_rule(dice)[:1] + rule[at + 1 :]
-    if choice < 0.8:
-        return rule
-    return busy_rule(dice)
-
-
 def small_cases(seed, many):
     """Setups and pairs of rules by dice, with at most six hundred pairs."""
     dice = random.Random(seed)
     cases = []
     while len(cases) < many:
-        setup, rule = small_setup(dice), busy_rule(dice)
+        setup, rule = small_setup(dice, 1, 2), busy_rule(dice)
         other = like(dice, rule)
         if len(plain_within(setup, rule, other)[0]) <= 600:
             cases.append((setup, rule, other))
