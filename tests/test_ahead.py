@@ -67,6 +67,8 @@ class TestLeastLost(unittest.TestCase):
     def test_parts_of_none_if_none_are_told(self):
         for setup, row, _ in ahead_cases(344, 40, 5):
             self.assertEqual(least_lost(setup, row), least_lost(setup, row, parts=0))
+            self.assertEqual(best_deeds(setup, row), best_deeds(setup, row, parts=0))
+            self.assertNotIn("part", [name for done in best_deeds(setup, row) for name, _ in done])
 
     def test_rows_of_sixteen_and_seventeen_beats(self):
         for call in (least_lost, best_deeds):
@@ -272,9 +274,10 @@ class TestRegret(unittest.TestCase):
         for wrong in NO_RULES:
             with self.assertRaises(BadRule):
                 regret(SETUP, wrong, ROW * 5)
-        with self.assertRaises(BadRow) as caught:
-            regret(SETUP, (), ROW * 5)
-        self.assertEqual(caught.exception.place, 16)
+        for times in (5, 75, 76, 100):
+            with self.assertRaises(BadRow) as caught:
+                regret(SETUP, (), ROW * times)
+            self.assertEqual(caught.exception.place, 16)
         for row in NO_LISTS:
             with self.assertRaises(BadRow) as caught:
                 regret(SETUP, (), row)

@@ -99,6 +99,13 @@ class TestAheadHolds(unittest.TestCase):
             if parts:
                 self.assertFalse(self.holds(paper, 0, parts - 1, setup, row))
 
+    def test_parts_of_none_if_none_are_told(self):
+        paper = ahead_paper(SETUP, ROW)
+        self.assertEqual(paper, ahead_paper(SETUP, ROW, parts=0))
+        self.assertNotEqual(paper, self.paper)
+        self.assertIs(ahead_holds(SETUP, ROW, least_lost(SETUP, ROW), paper), True)
+        self.assertIs(ahead_holds(SETUP, ROW, 0, self.paper), False)
+
     def test_any_order(self):
         dice = random.Random(363)
         for _ in range(5):

@@ -312,6 +312,10 @@ class TestOneMoreHolds(unittest.TestCase):
         self.assertFalse(self.holds(("row", row, True), setup, SINGLES_FIRST))
         self.assertFalse(self.holds(("row", row, -1), setup, SINGLES_FIRST))
 
+    def test_places_before_the_first_beat(self):
+        for place in (-1, -2):
+            self.assertFalse(self.holds(("row", [((2,), 0)] * 2, place), ((2,), (2,), (3, 1), (1, 1)), ()))
+
     def test_wrong_rows(self):
         setup = ((2,), (2,), (1, 1), (1, 1))
         for row in (*NO_LISTS, [], [None], [((2,), 0), None], [((1,), 0)], [[(2,), 0]], [((2,), False)], [((2,), 2)]):

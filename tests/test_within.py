@@ -204,6 +204,14 @@ class TestWithinHolds(unittest.TestCase):
                 self.assertFalse(self.holds(("within", self.pairs + [pairs[at]])))
         self.assertGreater(turned, 5)
 
+    def test_a_state_twice_in_a_tuple(self):
+        # It is ascending still, and has no states but those that it may have.
+        for at, (state, others) in enumerate(self.pairs):
+            for place in range(len(others)):
+                pairs = list(self.pairs)
+                pairs[at] = (state, others[: place + 1] + others[place:])
+                self.assertTrue(self.holds(("within", pairs + self.pairs[:1])))
+
     def test_an_empty_tuple(self):
         for at, (state, _) in enumerate(self.pairs):
             self.assertFalse(self.holds(("within", self.pairs + [(state, ())])))
