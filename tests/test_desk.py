@@ -281,7 +281,7 @@ class TestErrors(unittest.TestCase):
 
     def test_texts_of_rules(self):
         right = "0 1-2 0-9 0-9 group 0; 0 0-9 0-9 1-9 single 0"
-        for text in ("", " ", "x", "- ", " -", " " + right, right + " ", right[:-2], right + ";", right[:20], right * 2):
+        for text in ("", " ", "x", "- ", " -", " " + right, right + " ", right[:-2], right + ";", right[:9], right * 2):
             self.fails(BadText, "rule " + text, plain_rule_place(text))
         self.fails(BadText, "rule ", 0)
         self.fails(BadText, "rule  -", 0)
